@@ -1,0 +1,1 @@
+"""A keeper of guests, each a whole small machine that runs as if alone."""
