@@ -1,7 +1,7 @@
 """The keeper of up to three guests: its calls in numbers, and what it answers."""
 
 from guestkeeper.console import Console
-from guestkeeper.machine import MEMORY_WORDS, PAGES, Machine
+from guestkeeper.machine import MEMORY_WORDS, PAGES, PAGE_WORDS, Machine, is_state
 from guestkeeper.reader import Reader
 from guestkeeper.running import run
 
@@ -12,6 +12,7 @@ WORDS_FORM = 1
 RUN_FORM = 2
 
 NO_GUEST = -2
+NOT_ALL_TAKEN = -16
 HAS_GUEST = -17
 WRONG_NUMBER = -22
 TOO_LONG = -28
@@ -20,11 +21,25 @@ TOO_LONG = -28
 class Keeper:
     def __init__(self):
         self.guests = [None] * GUESTS
+        # The 16 pages of each guest that's coming.
+        self.pages = [None] * GUESTS
 
     def guest(self, k):
         if k >= GUESTS:
             return None
         return self.guests[k]
+
+    def coming(self, k):
+        if k >= GUESTS:
+            return None
+        return self.pages[k]
+
+    def has_any(self, k):
+        return self.guest(k) is not None or self.coming(k) is not None
+
+    def forget(self, k):
+        self.guests[k] = None
+        self.pages[k] = None
 
 
 def say_number(number):
@@ -36,7 +51,8 @@ def say_words(words):
 
 
 def hv_start(keeper, reader):
-    keeper.guests = [None] * GUESTS
+    for k in range(GUESTS):
+        keeper.forget(k)
     return say_number(0)
 
 
@@ -45,7 +61,7 @@ def hv_new(keeper, reader):
     image = reader.row()
     if k >= GUESTS:
         return say_number(WRONG_NUMBER)
-    if keeper.guest(k) is not None:
+    if keeper.has_any(k):
         return say_number(HAS_GUEST)
     if len(image) > MEMORY_WORDS:
         return say_number(TOO_LONG)
@@ -91,8 +107,83 @@ def hv_changed(keeper, reader):
     return say_number(sum([guest.changed[p] << p for p in range(PAGES)]))
 
 
+def hv_take(keeper, reader):
+    k = reader.number()
+    p = reader.number()
+    guest = keeper.guest(k)
+    if guest is None:
+        return say_number(NO_GUEST)
+    if p >= PAGES:
+        return say_number(WRONG_NUMBER)
+    guest.changed[p] = 0
+    return say_words(guest.page(p))
+
+
+def hv_leave(keeper, reader):
+    k = reader.number()
+    guest = keeper.guest(k)
+    if guest is None:
+        return say_number(NO_GUEST)
+    if sum(guest.changed) > 0:
+        return say_number(NOT_ALL_TAKEN)
+    keeper.forget(k)
+    return say_words(guest.state())
+
+
+def hv_come(keeper, reader):
+    k = reader.number()
+    if k >= GUESTS:
+        return say_number(WRONG_NUMBER)
+    if keeper.has_any(k):
+        return say_number(HAS_GUEST)
+    keeper.pages[k] = [[0] * PAGE_WORDS for p in range(PAGES)]
+    return say_number(0)
+
+
+def hv_put(keeper, reader):
+    k = reader.number()
+    p = reader.number()
+    words = reader.row()
+    pages = keeper.coming(k)
+    if pages is None:
+        return say_number(NO_GUEST)
+    if p >= PAGES:
+        return say_number(WRONG_NUMBER)
+    pages[p] = words
+    return say_number(0)
+
+
+def hv_settle(keeper, reader):
+    k = reader.number()
+    state = reader.row()
+    pages = keeper.coming(k)
+    if pages is None:
+        return say_number(NO_GUEST)
+    if not is_state(state):
+        return say_number(WRONG_NUMBER)
+    memory = []
+    for page in pages:
+        memory.extend(page)
+    guest = Machine(memory)
+    guest.go_on_from(state)
+    keeper.forget(k)
+    keeper.guests[k] = guest
+    return say_number(0)
+
+
+def hv_drop(keeper, reader):
+    k = reader.number()
+    if not keeper.has_any(k):
+        return say_number(NO_GUEST)
+    keeper.forget(k)
+    return say_number(0)
+
+
 # A call's number is its place in this row.
-CALLS = (hv_start, hv_new, hv_run, hv_word, hv_state, hv_changed)
+CALLS = (
+    hv_start, hv_new, hv_run, hv_word, hv_state, hv_changed,
+    hv_take, hv_leave, hv_come, hv_put, hv_settle, hv_drop,
+)
 
 
 def answers(calls):

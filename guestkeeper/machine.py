@@ -23,6 +23,9 @@ ADDRESS = 2
 CALLED = 3
 TIMER = 4
 
+LAST_WAY = 3
+LAST_CAUSE = 4
+
 
 class Machine:
     def __init__(self, image):
@@ -44,6 +47,21 @@ class Machine:
     def state(self):
         modes = [self.place, self.user, self.ints, self.pending, self.halted, self.timer]
         return self.registers + modes + self.specials + self.table
+
+    # Slices are copies: what the machine does later leaves the words it was given.
+    def go_on_from(self, state):
+        self.registers = state[0:8]
+        self.place = state[8]
+        self.user = state[9]
+        self.ints = state[10]
+        self.pending = state[11]
+        self.halted = state[12]
+        self.timer = state[13]
+        self.specials = state[14:18]
+        self.table = state[18:34]
+
+    def page(self, p):
+        return self.memory[p * PAGE_WORDS:(p + 1) * PAGE_WORDS]
 
     def spot(self, address, need):
         if address >= MEMORY_WORDS:
@@ -68,6 +86,11 @@ class Machine:
         self.user = 0
         self.ints = 0
         return TRAP_PLACE
+
+
+# Only what no machine can come to is refused: the place, the four that are 0 or 1, the way from before, the cause.
+def is_state(state):
+    return state[8] < MEMORY_WORDS and max(state[9:13]) <= 1 and state[15] <= LAST_WAY and state[16] <= LAST_CAUSE
 
 
 def behind(place):

@@ -1,4 +1,4 @@
-"""What the tests share: calls in numbers, instructions as words, and a second machine to compare with."""
+"""What the tests share: calls in numbers, instructions as words, a second machine and keeper to compare with."""
 
 from guestkeeper.keeper import answers
 
@@ -9,6 +9,8 @@ TOP = 2 ** 32 - 1
 
 PARTS = ("registers", "place", "user", "ints", "pending", "halted", "timer", "specials", "table")
 LENGTHS = {"registers": 8, "specials": 4, "table": 16}
+
+NO_GUESTS = (0, 1, 2, 3, 2 ** 31, TOP)
 
 
 def start():
@@ -35,14 +37,69 @@ def changed(k):
     return [5, k]
 
 
+def take(k, p):
+    return [6, k, p]
+
+
+def leave(k):
+    return [7, k]
+
+
+def come(k):
+    return [8, k]
+
+
+def put(k, p, words):
+    return [9, k, p, len(words)] + list(words)
+
+
+def settle(k, words):
+    return [10, k, len(words)] + list(words)
+
+
+def drop(k):
+    return [11, k]
+
+
 def ask(*calls):
     """What is answered to each call, as one list a call, the form first."""
-    flat = answers([number for call in calls for number in call])
+    asked = [number for call in calls for number in call]
+    assert len(calls) <= 200 and len(asked) <= 30000, "no such list is handed in"
+    flat = answers(asked)
     parts = []
     while flat:
         parts.append(flat[1:1 + flat[0]])
         flat = flat[1 + flat[0]:]
     return parts
+
+
+class Talk:
+    """One keeper that is asked in turns: each turn the calls so far are handed in again, with the new ones behind."""
+
+    def __init__(self, *calls):
+        self.calls = list(calls)
+
+    def say(self, *calls):
+        self.calls += calls
+        return ask(*self.calls)[-len(calls):]
+
+    def take_changed(self, k, kept):
+        """Takes each page that isn't taken, and keeps its words."""
+        bits = self.say(changed(k))[0][1]
+        pages = [p for p in range(16) if bits >> p & 1]
+        if pages:
+            for p, answer in zip(pages, self.say(*[take(k, p) for p in pages])):
+                kept[p] = answer[2:]
+
+    def give_up(self, k):
+        """Takes every page, then leaves: the 16 pages and the state."""
+        kept = {p: answer[2:] for p, answer in enumerate(self.say(*[take(k, p) for p in range(16)]))}
+        return kept, self.say(leave(k))[0][2:]
+
+
+def arrive(k, pages, words):
+    """The calls by which a guest comes and is settled."""
+    return [come(k)] + [put(k, p, page) for p, page in pages.items()] + [settle(k, words)]
 
 
 def code(which, a=0, b=0, n=0):
@@ -72,12 +129,56 @@ def into_user(entries, place, ints=0):
     return codes
 
 
+def wild_word(source, last):
+    """A word that is most often an instruction up to the last, with small numbers that reach something."""
+    if source.random() < 0.05:
+        return source.getrandbits(32)
+    which = source.randrange(last + 1)
+    n = source.choice([source.randrange(6), source.randrange(64), source.randrange(4096), source.getrandbits(16)])
+    return which << 24 | source.getrandbits(3) << 20 | source.getrandbits(3) << 16 | n
+
+
+def opening(source):
+    """Sets the table and the timer, then goes on somewhere among the wild words, in one way or another."""
+    codes = []
+    for number in range(1, 16):
+        entry = source.randrange(16) << 8 | source.choice([0, 1, 2, 3, 3, 3])
+        codes += [code(SET, 6, n=number), code(SET, 7, n=entry), code(TABLE, 6, 7)]
+    codes += [code(SET, 6, n=0), code(SET, 7, n=3), code(TABLE, 6, 7)]
+    codes += [code(SET, 6, n=source.randrange(80, 256)), code(SPECIAL, 6)]
+    codes += [code(SET, 6, n=source.randrange(4)), code(SPECIAL, 6, n=1)]
+    return codes + [code(SET, 6, n=source.randrange(1, 40)), code(TIMER, 6), code(BACK)]
+
+
+def wild_image(source):
+    """Wild words in page 0, behind an opening; what lies at the trap's place most often goes back behind the trap."""
+    last = source.choice([11, 11, 14, 16, 19, 20])
+    words = [wild_word(source, last) for place in range(256)]
+    codes = opening(source)
+    words[8:8 + len(codes)] = codes
+    words[4] = source.choice([code(GO, n=66)] * 5 + [code(BACK), wild_word(source, 20)])
+    handler = [code(SET, 4, n=source.randrange(1, 30)), code(TIMER, 4), code(SET, 4, n=1), code(GET, 5)]
+    handler += [code(PLUS, 5, 4), code(SPECIAL, 5), code(BACK)]
+    words[66:66 + len(handler)] = handler
+    return words
+
+
 class State:
     def __init__(self, words):
         for part in PARTS:
             length = LENGTHS.get(part)
             setattr(self, part, words[0] if length is None else words[:length])
             words = words[1 if length is None else length:]
+
+
+def state_words(**parts):
+    """34 words: zeros but for the parts that are told."""
+    words = []
+    for part in PARTS:
+        length = LENGTHS.get(part)
+        words += [parts.pop(part, 0)] if length is None else parts.pop(part, [0] * length)
+    assert not parts and len(words) == 34
+    return words
 
 
 class Seen:
@@ -101,6 +202,11 @@ class PlainMachine:
         self.pc, self.user, self.ints, self.pending, self.halted, self.timer = 8, 0, 0, 0, 0, 0
         self.s = [0] * 4
         self.t = [0] * 16
+        self.taken = set()
+
+    def be(self, words):
+        self.r, self.s, self.t = words[:8], words[14:18], words[18:]
+        self.pc, self.user, self.ints, self.pending, self.halted, self.timer = words[8:14]
 
     def words(self):
         return self.r + [self.pc, self.user, self.ints, self.pending, self.halted, self.timer] + self.s + self.t
@@ -151,6 +257,7 @@ class PlainMachine:
                     continue
                 if which == 7:
                     self.m[spot] = A
+                    self.taken.discard(spot >> 8)
                 else:
                     self.r[a] = self.m.get(spot, 0)
             elif which == 9 and far > 4095:
@@ -185,3 +292,77 @@ class PlainMachine:
                 self.user, self.ints, onward = self.s[1] & 1, self.s[1] >> 1 & 1, self.s[0] & 4095
             self.pc = onward
         return [2, len(passed) // 2] + passed + [done]
+
+
+class PlainKeeper:
+    """The document's keeper once more, written apart from the package's."""
+
+    def __init__(self):
+        self.machines = {}
+        self.coming = {}
+
+    def answer(self, call):
+        which, *numbers = call
+        if which == 0:
+            self.__init__()
+            return [0, 0]
+        k, *rest = numbers
+        if which in (1, 8):
+            return [0, self.begin(which, k, rest[1:])]
+        if which in (9, 10):
+            return [0, self.fill(which, k, rest)]
+        if which == 11:
+            found = [kept.pop(k, None) for kept in (self.machines, self.coming)]
+            return [0, -2 if found == [None, None] else 0]
+        if k not in self.machines:
+            return [0, -2]
+        return self.look(which, k, rest)
+
+    def begin(self, which, k, image):
+        if k > 2:
+            return -22
+        if k in self.machines or k in self.coming:
+            return -17
+        if which == 8:
+            self.coming[k] = {}
+        elif len(image) > 4096:
+            return -28
+        else:
+            self.machines[k] = PlainMachine(image)
+        return 0
+
+    def fill(self, which, k, rest):
+        if k not in self.coming:
+            return -2
+        if which == 9:
+            if rest[0] > 15:
+                return -22
+            self.coming[k].update({rest[0] * 256 + low: word for low, word in enumerate(rest[2:])})
+            return 0
+        words = rest[1:]
+        tops = {8: 4095, 9: 1, 10: 1, 11: 1, 12: 1, 15: 3, 16: 4}
+        if any(words[at] > top for at, top in tops.items()):
+            return -22
+        self.machines[k] = PlainMachine([])
+        self.machines[k].m = self.coming.pop(k)
+        self.machines[k].be(words)
+        return 0
+
+    def look(self, which, k, rest):
+        machine = self.machines[k]
+        if which == 2:
+            return machine.run(rest[0], rest[2:])
+        if which == 3:
+            return [1, 1, machine.m.get(rest[0], 0)] if rest[0] < 4096 else [0, -22]
+        if which == 5:
+            return [0, sum(1 << p for p in range(16) if p not in machine.taken)]
+        if which == 6:
+            if rest[0] > 15:
+                return [0, -22]
+            machine.taken.add(rest[0])
+            return [1, 256] + [machine.m.get(rest[0] * 256 + low, 0) for low in range(256)]
+        if which == 7:
+            if len(machine.taken) < 16:
+                return [0, -16]
+            self.machines.pop(k)
+        return [1, 34] + machine.words()

@@ -2,7 +2,8 @@
 
 import unittest
 
-from tests.helper import HALT, SET, STORE, TOP, ask, changed, code, new, run, start, state, word
+from tests.helper import (HALT, SET, STORE, TOP, ask, changed, code, come, drop, new, put, run, settle, start, state,
+                          state_words, word)
 
 NEW_STATE = [0] * 8 + [8] + [0] * 25
 
@@ -24,6 +25,18 @@ class StartTest(unittest.TestCase):
     def test_numbers_are_free_for_new_guests_behind_it(self):
         self.assertEqual(ask(new(0, [5]), start(), new(0, [6]), word(0, 0)), [[0, 0], [0, 0], [0, 0], [1, 1, 6]])
 
+    def test_with_guests_and_coming_ones_there(self):
+        before = [new(0, [5]), come(1), put(1, 0, [6] * 256), come(2), settle(2, state_words()), start()]
+        gone = [call for k in range(3) for call in (state(k), put(k, 0, [0] * 256), drop(k))]
+        answered = ask(*before, *gone, *[come(k) for k in range(3)])
+        self.assertEqual(answered, [[0, 0]] * 6 + [[0, -2]] * 9 + [[0, 0]] * 3)
+        answered = ask(*before, *[new(k, []) for k in range(3)], *[word(k, 0) for k in range(3)])
+        self.assertEqual(answered[6:], [[0, 0]] * 3 + [[1, 1, 0]] * 3)
+
+    def test_a_coming_one_behind_it_has_nothing_of_one_before(self):
+        answered = ask(come(1), put(1, 0, [6] * 256), start(), come(1), settle(1, state_words()), word(1, 0))
+        self.assertEqual(answered[3:], [[0, 0], [0, 0], [1, 1, 0]])
+
 
 class NewTest(unittest.TestCase):
     def test_each_number_from_0_to_2(self):
@@ -35,6 +48,11 @@ class NewTest(unittest.TestCase):
 
     def test_has_a_guest(self):
         self.assertEqual(ask(new(2, [4]), new(2, [5]), word(2, 0)), [[0, 0], [0, -17], [1, 1, 4]])
+
+    def test_has_one_that_is_coming(self):
+        refused = [new(2, [5]), new(2, [1] * 4097)]
+        answered = ask(come(2), put(2, 0, [4] * 256), *refused, settle(2, state_words()), word(2, 0))
+        self.assertEqual(answered, [[0, 0], [0, 0], [0, -17], [0, -17], [0, 0], [1, 1, 4]])
 
     def test_refused_for_a_guest_that_ran_changes_nothing(self):
         program = [0] * 8 + [code(SET, 1, n=9), code(STORE, 1, n=100), code(HALT)]

@@ -4,16 +4,17 @@ import unittest
 
 from guestkeeper.machine import Machine
 from guestkeeper.running import run as run_machine
-from tests.helper import (HALT, HIGH, PLUS, SET, SPECIAL, STORE, TABLE, TIMER, TOP, ask, changed, code, image,
-                          into_user, new, number, run, start, state, word)
-
-NO_GUESTS = (0, 1, 2, 3, 2 ** 31, TOP)
+from tests.helper import (HALT, HIGH, NO_GUESTS, PLUS, SET, SPECIAL, STORE, TABLE, TIMER, TOP, ask, changed, code,
+                          come, image, into_user, new, number, run, start, state, word)
 
 
 class WordTest(unittest.TestCase):
     def test_no_guest(self):
         for k in NO_GUESTS:
             self.assertEqual(ask(word(k, 0)), [[0, -2]])
+
+    def test_a_coming_one_is_none(self):
+        self.assertEqual(ask(come(2), word(2, 0), word(2, 4096)), [[0, 0], [0, -2], [0, -2]])
 
     def test_no_guest_is_named_before_a_wrong_address(self):
         self.assertEqual(ask(new(0, []), word(1, 4096), word(3, TOP)), [[0, 0], [0, -2], [0, -2]])
@@ -43,6 +44,9 @@ class StateTest(unittest.TestCase):
         for k in NO_GUESTS:
             self.assertEqual(ask(state(k)), [[0, -2]])
 
+    def test_a_coming_one_is_none(self):
+        self.assertEqual(ask(come(0), state(0)), [[0, 0], [0, -2]])
+
     def test_34_words_in_order(self):
         codes = [code(SET, a, n=100 + a) for a in range(8)]
         codes += [code(SPECIAL, 2, n=0), code(SPECIAL, 3, n=1)]
@@ -66,6 +70,9 @@ class ChangedTest(unittest.TestCase):
             self.assertEqual(ask(changed(k)), [[0, -2]])
         self.assertEqual(ask(new(1, []), changed(0), changed(2), start(), changed(1))[1:], [[0, -2], [0, -2], [0, 0],
                                                                                           [0, -2]])
+
+    def test_a_coming_one_is_none(self):
+        self.assertEqual(ask(come(0), changed(0)), [[0, 0], [0, -2]])
 
     def test_all_bits_where_no_page_is_taken(self):
         memory = [0] * 8 + [code(STORE, 1, n=300), code(HALT)]

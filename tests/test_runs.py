@@ -3,8 +3,8 @@
 import random
 import unittest
 
-from tests.helper import (BACK, GET, GO, HALT, IN, OUT, PLUS, SET, SPECIAL, STORE, TABLE, TIMER, TOP, PlainMachine,
-                          Seen, ask, changed, code, image, new, run, start, state, word)
+from tests.helper import (GO, HALT, IN, OUT, PLUS, SET, STORE, TOP, PlainMachine, Seen, ask, changed, code, come,
+                          image, new, run, start, state, wild_image, word)
 
 ASK_FOR_EVER = image((8, [code(IN, 1), code(GO, n=8)]))
 ECHO = image((8, [code(IN, 1), code(OUT, 1), code(PLUS, 2, 1), code(GO, n=8)]))
@@ -15,6 +15,10 @@ class StepsTest(unittest.TestCase):
         for k in (0, 1, 2, 3, TOP):
             self.assertEqual(ask(run(k, 5, [1, 2])), [[0, -2]])
         self.assertEqual(ask(new(0, []), run(1, 0), start(), run(0, 0)), [[0, 0], [0, -2], [0, 0], [0, -2]])
+
+    def test_a_coming_one_is_none(self):
+        for steps in (0, 5):
+            self.assertEqual(ask(come(1), run(1, steps, [3])), [[0, 0], [0, -2]])
 
     def test_steps_of_0(self):
         answered = ask(new(0, ECHO), state(0), run(0, 0, [5]), state(0))
@@ -63,39 +67,6 @@ class ToldTest(unittest.TestCase):
     def test_guests_have_consoles_of_their_own(self):
         answered = ask(new(0, ECHO), new(1, ECHO), run(0, 1, [7, 8]), run(1, 1, [3]), run(0, 1), run(1, 1))
         self.assertEqual(answered[2:], [[2, 1, 1, 7, 1], [2, 1, 1, 3, 1], [2, 1, 0, 7, 1], [2, 1, 0, 3, 1]])
-
-
-def wild_word(source, last):
-    """A word that is most often an instruction up to the last, with small numbers that reach something."""
-    if source.random() < 0.05:
-        return source.getrandbits(32)
-    which = source.randrange(last + 1)
-    n = source.choice([source.randrange(6), source.randrange(64), source.randrange(4096), source.getrandbits(16)])
-    return which << 24 | source.getrandbits(3) << 20 | source.getrandbits(3) << 16 | n
-
-
-def opening(source):
-    """Sets the table and the timer, then goes on somewhere among the wild words, in one way or another."""
-    codes = []
-    for number in range(1, 16):
-        entry = source.randrange(16) << 8 | source.choice([0, 1, 2, 3, 3, 3])
-        codes += [code(SET, 6, n=number), code(SET, 7, n=entry), code(TABLE, 6, 7)]
-    codes += [code(SET, 6, n=0), code(SET, 7, n=3), code(TABLE, 6, 7)]
-    codes += [code(SET, 6, n=source.randrange(80, 256)), code(SPECIAL, 6)]
-    codes += [code(SET, 6, n=source.randrange(4)), code(SPECIAL, 6, n=1)]
-    return codes + [code(SET, 6, n=source.randrange(1, 40)), code(TIMER, 6), code(BACK)]
-
-
-def wild_image(source):
-    """Wild words in page 0, behind an opening; what lies at the trap's place most often goes back behind the trap."""
-    last = source.choice([11, 11, 14, 16, 19, 20])
-    words = [wild_word(source, last) for place in range(256)]
-    codes = opening(source)
-    words[8:8 + len(codes)] = codes
-    words[4] = source.choice([code(GO, n=66)] * 5 + [code(BACK), wild_word(source, 20)])
-    handler = [code(SET, 4, n=source.randrange(1, 30)), code(TIMER, 4), code(SET, 4, n=1), code(GET, 5), code(PLUS, 5, 4)]
-    words[66:66 + len(handler) + 2] = handler + [code(SPECIAL, 5), code(BACK)]
-    return words
 
 
 def opened(machine):
